@@ -1,0 +1,1 @@
+"""Completing call traces whose exits are partly lost."""

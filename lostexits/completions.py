@@ -1,0 +1,111 @@
+"""Completions: how many frames return unseen directly before each moment of a trace."""
+
+from lostexits.errors import InvalidCompletion
+from lostexits.traces import check_trace, created_before, frames, is_plain_int
+
+
+def stack_after(stack, event, created):
+    """Return the stack after an event before which so many frames are created, or None if it is impossible."""
+    kind = event[0]
+    if kind == "enter":
+        return stack + (created,)
+    if kind == "tail":
+        return stack[:-1] + (created,) if stack else None
+    if kind == "exit":
+        return stack[:-1] if stack[-1:] == (event[1],) else None
+    if kind == "catch":
+        return stack[:stack.index(event[1]) + 1] if event[1] in stack else None
+    return stack
+
+
+def next_stack(trace, reached):
+    """Return the stack at the moment behind the reached ones, before its unseen returns, or None."""
+    if not reached:
+        return ()
+    last = len(reached) - 1
+    return stack_after(reached[last], trace[last], created_before(trace, last))
+
+
+def are_moment_numbers(trace, numbers):
+    """Return whether a list or tuple has one integer for each moment."""
+    return len(numbers) == len(trace) + 1 and all([is_plain_int(number) for number in numbers])
+
+
+def reached_stacks(trace, value):
+    """Return the stacks at all moments, or None if the value is not a valid completion of the trace."""
+    if not isinstance(value, tuple) or not are_moment_numbers(trace, value):
+        return None
+    reached = []
+    for unseen in value:
+        stack = next_stack(trace, reached)
+        if stack is None or not 0 <= unseen <= len(stack):
+            return None
+        reached.append(stack[:len(stack) - unseen])
+    return reached
+
+
+def is_completion(trace, value):
+    """Return whether a value is a valid completion of a trace."""
+    check_trace(trace)
+    return reached_stacks(trace, value) is not None
+
+
+def stacks(trace, completion):
+    """Return the list of the stacks at all moments."""
+    check_trace(trace)
+    reached = reached_stacks(trace, completion)
+    if reached is None:
+        raise InvalidCompletion("this is not a valid completion of the trace")
+    return reached
+
+
+def totals(trace, completion):
+    """Return, for each moment, how many frames have returned before it, seen or unseen."""
+    reached = stacks(trace, completion)
+    # Every frame that is created is active until it returns, and it returns only once.
+    return [created_before(trace, moment) - len(stack) for moment, stack in enumerate(reached)]
+
+
+def from_totals(trace, value):
+    """Return the valid completion with this list of totals, or None if there is none."""
+    check_trace(trace)
+    if not isinstance(value, list) or not are_moment_numbers(trace, value):
+        return None
+    reached = []
+    completion = []
+    for moment, total in enumerate(value):
+        stack = next_stack(trace, reached)
+        if stack is None:
+            return None
+        depth = created_before(trace, moment) - total
+        if not 0 <= depth <= len(stack):
+            return None
+        reached.append(stack[:depth])
+        completion.append(len(stack) - depth)
+    return tuple(completion)
+
+
+def caller_at(stack, event):
+    """Return the caller of the frame that an event creates on a stack, or None."""
+    below = stack[:-1] if event[0] == "tail" else stack
+    return below[-1] if below else None
+
+
+def callers(trace, completion):
+    """Return the list of the callers of all frames."""
+    reached = stacks(trace, completion)
+    return [caller_at(reached[at], trace[at]) for name, at in frames(trace)]
+
+
+def end_of(frame, reached, first):
+    """Return the first moment, from a first one on, at which a frame is not active, or None."""
+    for moment in range(first, len(reached)):
+        if frame not in reached[moment]:
+            return moment
+    return None
+
+
+def ends(trace, completion):
+    """Return, for each frame, the first moment after its creation at which it is not active, or None."""
+    reached = stacks(trace, completion)
+    return [end_of(frame, reached, at + 1) for frame, (name, at) in enumerate(frames(trace))]
