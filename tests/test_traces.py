@@ -51,6 +51,8 @@ class Events(unittest.TestCase):
             (("mark", 0),),
             (("mark", None),),
             (("mark", ()),),
+            (("mark", "f", 0),),
+            (("mark", "mark", "mark"),),
             (ENTER, ("tail",)),
             (ENTER, ("tail", "f", "f")),
             (ENTER, ("exit",)),
