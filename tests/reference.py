@@ -1,13 +1,25 @@
-"""A second calculation of what a completion means, and values to test with.
+"""A second calculation of what completions, facts and derivations mean, and values to test with.
 
 It shares nothing with the package: the stack is a chain of frames, each of which knows the frame
 below it, and every single return is noted with the first moment at which the frame is not active.
+A fact is judged by these ends, solutions are looked for among all valid completions, and a line of a
+derivation is judged by the inequalities as the document writes them down.
 """
 
-from itertools import product
+from itertools import combinations, product
 from random import Random
 
 T = (("enter", "main"), ("enter", "load"), ("enter", "parse"), ("exit", 1), ("enter", "save"))
+# Traces in which no completion is valid.
+WITHOUT_COMPLETION = (
+    (("enter", "f"), ("exit", 0), ("exit", 0)),
+    (("enter", "f"), ("exit", 0), ("catch", 0)),
+    (("enter", "f"), ("exit", 0), ("tail", "g")),
+    (("enter", "f"), ("tail", "g"), ("exit", 0)),
+    (("enter", "f"), ("tail", "g"), ("catch", 0)),
+    (("enter", "f"), ("enter", "f"), ("exit", 0), ("exit", 1)),
+    (("enter", "f"), ("enter", "f"), ("catch", 0), ("exit", 1)),
+)
 
 
 class Impossible(Exception):
@@ -109,10 +121,10 @@ def random_pairs(seed, many):
         yield random_pair(chance)
 
 
-def random_pair(chance):
+def random_pair(chance, events=None):
     trace = ()
     completion = ()
-    for _ in range(chance.randrange(4, 25)):
+    for _ in range(events or chance.randrange(4, 25)):
         completion += (random_unseen(chance, trace, completion),)
         trace += (random_event(chance, trace, completion),)
     completion += (random_unseen(chance, trace, completion),)
@@ -135,6 +147,247 @@ def random_event(chance, trace, completion):
     if stack:
         choices += [("exit", stack[-1]), ("catch", chance.choice(stack))]
     return chance.choice(choices)
+
+
+def created(trace, moment):
+    return sum(1 for event in trace[:moment] if event[0] in ("enter", "tail"))
+
+
+def births(trace):
+    return [at for at, event in enumerate(trace) if event[0] in ("enter", "tail")]
+
+
+def alive(trace, known, moment):
+    """The frames that are active at a moment, by the ends of all frames."""
+    frames = enumerate(births(trace))
+    return tuple(i for i, at in frames if at < moment and (known.ends[i] is None or moment < known.ends[i]))
+
+
+def true(trace, known, fact):
+    """Whether a fact holds in a completion with this meaning."""
+    kind, *parts = fact
+    if kind == "depth":
+        return len(alive(trace, known, parts[0])) in range(parts[1], parts[2] + 1)
+    if kind == "active":
+        return parts[0] in alive(trace, known, parts[1])
+    if kind == "returned":
+        return known.ends[parts[0]] is not None and known.ends[parts[0]] <= parts[1]
+    if kind == "innermost":
+        return max(alive(trace, known, parts[1]), default=None) == parts[0]
+    if kind == "returns":
+        between = [end for end in known.ends if end is not None and parts[0] < end <= parts[1]]
+        return len(between) in range(parts[2], parts[3] + 1)
+    if kind == "deeper":
+        return len(alive(trace, known, parts[0])) - len(alive(trace, known, parts[1])) >= parts[2]
+    return alive(trace, known, parts[0]) == parts[1]
+
+
+def latest(fact):
+    """The moment from which on it is known whether a fact holds."""
+    kind, *parts = fact
+    if kind == "deeper":
+        return max(parts[0], parts[1])
+    return parts[0] if kind in ("depth", "stack") else parts[1]
+
+
+def all_completions(trace, facts=(), most=10**6):
+    """All valid completions that satisfy the facts, in ascending order, as pairs with their meanings.
+
+    None if there are more beginnings of such completions than the largest number.
+    """
+    found = [()]
+    for moment in range(len(trace) + 1):
+        due = [fact for fact in facts if latest(fact) == moment]
+        longer = [row + (unseen,) for row in found for unseen in range(created(trace, moment) + 1)]
+        pairs = [(row, meaning(trace[:moment], row)) for row in longer]
+        pairs = [pair for pair in pairs if pair[1] and all(true(trace[:moment], pair[1], fact) for fact in due)]
+        found = [row for row, known in pairs]
+        if len(found) > most:
+            return None
+    return pairs
+
+
+def all_facts(trace, numbers):
+    """All facts about a trace with these numbers in the places of low, high and by, and the negatives of by."""
+    moments = range(len(trace) + 1)
+    ranges = [(low, high) for low in numbers for high in numbers if low <= high]
+    leads = sorted(set(numbers) | {-number for number in numbers})
+    found = [("depth", k, low, high) for k in moments for low, high in ranges]
+    for kind in ("active", "returned", "innermost"):
+        found += [(kind, i, k) for i, at in enumerate(births(trace)) for k in range(at + 1, len(trace) + 1)]
+    found += [("returns", j, k, low, high) for j in moments for k in moments if j < k for low, high in ranges]
+    found += [("deeper", j, k, by) for j in moments for k in moments if j != k for by in leads]
+    for k in moments:
+        frames = range(created(trace, k))
+        found += [("stack", k, stack) for size in range(len(frames) + 1) for stack in combinations(frames, size)]
+    return found
+
+
+def satisfying(trace, pairs, facts):
+    """Those pairs of a completion and its meaning that satisfy all facts."""
+    return [pair for pair in pairs if all(true(trace, pair[1], fact) for fact in facts)]
+
+
+def extreme(pairs, choose):
+    """The completion whose totals are all chosen by min or max among those of the pairs, or None."""
+    if not pairs:
+        return None
+    wanted = [choose(column) for column in zip(*(known.totals for row, known in pairs))]
+    return next((row for row, known in pairs if known.totals == wanted), None)
+
+
+class Inequalities:
+    """The inequalities of a trace, each as the pair of its left moment and its right side, a function of p."""
+
+    def __init__(self, trace):
+        self.trace = trace
+        self.a = births(trace)
+        self.b = [1 if trace[at][0] == "tail" else 0 for at in self.a]
+
+    def e(self, k):
+        return created(self.trace, k)
+
+    def tail_calls(self, i, k):
+        return [at for at, event in enumerate(self.trace) if event[0] == "tail" and self.a[i] < at < k]
+
+    def active(self, i, k):
+        e, a, b = self.e, self.a[i], self.b[i]
+        for moment in range(a + 1, k + 1):
+            yield moment, lambda p, moment=moment: p(a) + e(moment) - e(a) - 1 + b
+        for at in self.tail_calls(i, k):
+            yield at, lambda p, at=at: p(a) + e(at) - e(a) - 2 + b
+
+    def returned(self, i, k):
+        e, a, b = self.e, self.a[i], self.b[i]
+
+        def right(p):
+            plain = [p(moment) - e(moment) + e(a) - b for moment in range(a + 1, k + 1)]
+            return max(plain + [p(at) - e(at) + e(a) + 1 - b for at in self.tail_calls(i, k)])
+
+        yield a, right
+
+    def innermost(self, i, k):
+        e, a, b = self.e, self.a[i], self.b[i]
+        yield from self.active(i, k)
+        yield a, lambda p: p(k) - e(k) + e(a) + 1 - b
+
+    def event(self, k):
+        e = self.e
+        kind, *rest = self.trace[k]
+        if kind in ("tail", "exit"):
+            yield k, lambda p: p(k + 1) - 1
+        else:
+            yield k, lambda p: p(k + 1)
+        if kind == "tail":
+            yield k, lambda p: e(k) - 1
+        if kind == "exit":
+            yield from self.innermost(rest[0], k)
+        if kind == "catch":
+            a, b = self.a[rest[0]], self.b[rest[0]]
+            yield from self.active(rest[0], k)
+            yield a, lambda p: p(k + 1) - e(k) + e(a) + 1 - b
+
+    def fact(self, fact):
+        e = self.e
+        kind, *parts = fact
+        if kind == "depth":
+            k, low, high = parts
+            yield k, lambda p: e(k) - low
+            yield 0, lambda p: p(k) - e(k) + high
+        if kind in ("active", "returned", "innermost"):
+            yield from getattr(self, kind)(*parts)
+        if kind == "returns":
+            j, k, low, high = parts
+            yield k, lambda p: p(j) + high
+            yield j, lambda p: p(k) - low
+        if kind == "deeper":
+            j, k, by = parts
+            yield j, lambda p: p(k) + e(j) - e(k) - by
+        if kind == "stack":
+            k, stack = parts
+            for i in range(e(k)):
+                yield from self.active(i, k) if i in stack else self.returned(i, k)
+
+
+def line_follows(trace, facts, before, line):
+    """Whether a line follows from the lines before it."""
+    moment, bound, (word, index) = line
+    told = Inequalities(trace)
+
+    def p(k):
+        return min([created(trace, k)] + [known for at, known, source in before if at == k])
+
+    if not 0 <= index < len(trace if word == "event" else facts):
+        return False
+    given = told.event(index) if word == "event" else told.fact(facts[index])
+    return any(left == moment and right(p) <= bound for left, right in given)
+
+
+def derives(trace, facts, lines):
+    """Whether lines of the right form are a derivation."""
+    if not 1 <= len(lines) <= 1500:
+        return False
+    if not all(line_follows(trace, facts, lines[:at], line) for at, line in enumerate(lines)):
+        return False
+    return lines[-1][0] == 0 and lines[-1][1] < 0
+
+
+def large_trace(chance):
+    """A trace of 24 events with 10 frames; most of these have a valid completion."""
+    trace, completion = random_pair(chance, 24)
+    while created(trace, 24) < 10:
+        trace, completion = random_pair(chance, 24)
+    if chance.randrange(4) == 0:
+        at = chance.choice([at for at in range(24) if trace[at][0] not in ("enter", "tail") and created(trace, at)])
+        other = (chance.choice(("exit", "catch")), chance.randrange(created(trace, at)))
+        trace = trace[:at] + (other,) + trace[at + 1 :]
+    return trace
+
+
+def near_fact(chance, trace, known):
+    """A fact of any kind that holds, or nearly holds, in a completion with this meaning."""
+    depths = [len(stack) for stack in known.stacks]
+    first, last = sorted(chance.sample(range(len(trace) + 1), 2))
+    frame = chance.randrange(created(trace, len(trace)))
+    moment = chance.randrange(births(trace)[frame] + 1, len(trace) + 1)
+    many = known.totals[last] - known.totals[first]
+    by = depths[last] - depths[first]
+    return chance.choice(
+        (
+            ("depth", last, max(0, depths[last] - 1), depths[last]),
+            ("active", frame, moment),
+            ("returned", frame, moment),
+            ("innermost", frame, moment),
+            ("returns", first, last, max(0, many - 1), many),
+            chance.choice((("deeper", last, first, by), ("deeper", first, last, -by))),
+            ("stack", last, known.stacks[last]),
+            ("stack", first, known.stacks[first]),
+        )
+    )
+
+
+def near_facts(chance, trace, known, many):
+    """A tuple of facts; almost all of them hold in a completion with this meaning."""
+    facts = ()
+    while len(facts) < many:
+        fact = near_fact(chance, trace, known)
+        if true(trace, known, fact) or chance.randrange(25) == 0:
+            facts += (fact,)
+    return facts
+
+
+def large_problems(seed, many):
+    """Traces of 24 events and 10 frames with 8 facts that leave only few completions, and these."""
+    chance = Random(seed)
+    while many:
+        trace, completion = random_pair(chance, 24)
+        if created(trace, 24) < 10:
+            continue
+        facts = near_facts(chance, trace, meaning(trace, completion), 8)
+        pairs = all_completions(trace, facts, 60)
+        if pairs is not None:
+            many -= 1
+            yield trace, facts, pairs
 
 
 def nested(many, shape):

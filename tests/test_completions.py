@@ -1,7 +1,7 @@
 import copy
 import unittest
 
-from reference import ODD_VALUES, T, meaning, random_pairs, rows, small_traces
+from reference import ODD_VALUES, WITHOUT_COMPLETION, T, meaning, random_pairs, rows, small_traces
 
 from lostexits.completions import callers, ends, from_totals, is_completion, stacks, totals
 from lostexits.errors import InvalidCompletion, InvalidTrace
@@ -20,15 +20,6 @@ NOT_TRACES = [value for value in ODD_VALUES if value != ()] + [
     (MARK,) * 25,
     (ENTER,) * 11,
 ]
-WITHOUT_COMPLETION = (
-    (ENTER, ("exit", 0), ("exit", 0)),
-    (ENTER, ("exit", 0), ("catch", 0)),
-    (ENTER, ("exit", 0), TAIL),
-    (ENTER, TAIL, ("exit", 0)),
-    (ENTER, TAIL, ("catch", 0)),
-    (ENTER, ENTER, ("exit", 0), ("exit", 1)),
-    (ENTER, ENTER, ("catch", 0), ("exit", 1)),
-)
 
 
 class Examples(unittest.TestCase):

@@ -1,6 +1,7 @@
 """What the interface and the rules of the language ask of the files themselves."""
 
 import ast
+import doctest
 import re
 import unittest
 from pathlib import Path
@@ -13,6 +14,10 @@ INTERFACE = {
     ),
     "traces.py": "is_trace frames",
     "completions.py": "is_completion stacks totals from_totals callers ends",
+    "text.py": "to_text from_text",
+    "facts.py": "is_fact holds",
+    "solving.py": "most_returned fewest_returned merge_most merge_fewest",
+    "derivations.py": "derivation is_derivation",
 }
 BARRED = (
     "type typing typing_extensions enum Enum IntEnum StrEnum Flag IntFlag Generic Protocol ABC ABCMeta "
@@ -59,6 +64,13 @@ class Files(unittest.TestCase):
                 self.assertNotIsInstance(node, ast.Import, name)
                 if isinstance(node, ast.ImportFrom):
                     self.assertTrue(node.level == 0 and node.module.startswith("lostexits."), name)
+
+
+class Readme(unittest.TestCase):
+    def test_examples(self):
+        told = doctest.testfile(str(PACKAGE.parent / "README.md"), module_relative=False)
+        self.assertGreater(told.attempted, 0)
+        self.assertEqual(told.failed, 0)
 
 
 if __name__ == "__main__":

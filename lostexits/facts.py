@@ -1,0 +1,150 @@
+"""Facts: what is known about the call stack at some moments."""
+
+from lostexits.completions import stacks, totals
+from lostexits.errors import InvalidFact, InvalidFacts
+from lostexits.traces import check_trace, created_before, is_plain_int
+
+MOST_FACTS = 8
+LARGEST_NUMBER = 10
+
+
+def is_within(value, low, high):
+    """Return whether a value is an integer from low to high."""
+    return is_plain_int(value) and low <= value <= high
+
+
+def is_moment(trace, value):
+    """Return whether a value is a moment of a trace."""
+    return is_within(value, 0, len(trace))
+
+
+def is_range(low, high):
+    """Return whether two values are the bounds of a depth or of a number of returns."""
+    return is_within(low, 0, LARGEST_NUMBER) and is_within(high, low, LARGEST_NUMBER)
+
+
+def is_frame_before(trace, value, moment):
+    """Return whether a value is a frame that is created before a moment."""
+    return is_within(value, 0, created_before(trace, moment) - 1)
+
+
+def is_depth_fact(trace, value):
+    """Return whether a tuple of four parts is a fact of the kind "depth"."""
+    return is_moment(trace, value[1]) and is_range(value[2], value[3])
+
+
+def is_frame_fact(trace, value):
+    """Return whether a tuple of three parts is a fact about a frame and a moment after its creation."""
+    return is_moment(trace, value[2]) and is_frame_before(trace, value[1], value[2])
+
+
+def is_returns_fact(trace, value):
+    """Return whether a tuple of five parts is a fact of the kind "returns"."""
+    if not is_moment(trace, value[1]) or not is_moment(trace, value[2]):
+        return False
+    return value[1] < value[2] and is_range(value[3], value[4])
+
+
+def is_deeper_fact(trace, value):
+    """Return whether a tuple of four parts is a fact of the kind "deeper"."""
+    if not is_moment(trace, value[1]) or not is_moment(trace, value[2]):
+        return False
+    return value[1] != value[2] and is_within(value[3], -LARGEST_NUMBER, LARGEST_NUMBER)
+
+
+def is_stack_fact(trace, value):
+    """Return whether a tuple of three parts is a fact of the kind "stack"."""
+    moment = value[1]
+    stack = value[2]
+    if not is_moment(trace, moment) or not isinstance(stack, tuple):
+        return False
+    if not all([is_frame_before(trace, frame, moment) for frame in stack]):
+        return False
+    return all([below < above for below, above in zip(stack, stack[1:])])
+
+
+PARTS = {"depth": 4, "active": 3, "returned": 3, "innermost": 3, "returns": 5, "deeper": 4, "stack": 3}
+CHECKS = {
+    "depth": is_depth_fact,
+    "active": is_frame_fact,
+    "returned": is_frame_fact,
+    "innermost": is_frame_fact,
+    "returns": is_returns_fact,
+    "deeper": is_deeper_fact,
+    "stack": is_stack_fact,
+}
+
+
+def is_fact(trace, value):
+    """Return whether a value is a fact about a trace."""
+    check_trace(trace)
+    if not isinstance(value, tuple) or not value or not isinstance(value[0], str):
+        return False
+    if PARTS.get(value[0]) != len(value):
+        return False
+    check = CHECKS[value[0]]
+    return check(trace, value)
+
+
+def check_facts(trace, value):
+    """Raise InvalidFacts unless a value is a tuple of facts about a trace."""
+    if not isinstance(value, tuple) or len(value) > MOST_FACTS:
+        raise InvalidFacts("this is not a tuple of so few facts")
+    if not all([is_fact(trace, fact) for fact in value]):
+        raise InvalidFacts("one of these is not a fact about the trace")
+
+
+def depth_holds(reached, returned, fact):
+    """Return whether the depth at a moment is between the bounds."""
+    return fact[2] <= len(reached[fact[1]]) <= fact[3]
+
+
+def active_holds(reached, returned, fact):
+    """Return whether a frame is active at a moment."""
+    return fact[1] in reached[fact[2]]
+
+
+def returned_holds(reached, returned, fact):
+    """Return whether a frame is not active at a moment."""
+    return fact[1] not in reached[fact[2]]
+
+
+def innermost_holds(reached, returned, fact):
+    """Return whether a frame is the innermost active one at a moment."""
+    return reached[fact[2]][-1:] == (fact[1],)
+
+
+def returns_holds(reached, returned, fact):
+    """Return whether the number of returns between two moments is between the bounds."""
+    return fact[3] <= returned[fact[2]] - returned[fact[1]] <= fact[4]
+
+
+def deeper_holds(reached, returned, fact):
+    """Return whether the stack at a moment is deeper than at another one by a number."""
+    return len(reached[fact[1]]) >= len(reached[fact[2]]) + fact[3]
+
+
+def stack_holds(reached, returned, fact):
+    """Return whether the stack at a moment is exactly this one."""
+    return reached[fact[1]] == fact[2]
+
+
+HOLDING = {
+    "depth": depth_holds,
+    "active": active_holds,
+    "returned": returned_holds,
+    "innermost": innermost_holds,
+    "returns": returns_holds,
+    "deeper": deeper_holds,
+    "stack": stack_holds,
+}
+
+
+def holds(trace, completion, fact):
+    """Return whether a fact holds in a completion of a trace."""
+    reached = stacks(trace, completion)
+    returned = totals(trace, completion)
+    if not is_fact(trace, fact):
+        raise InvalidFact("this is not a fact about the trace")
+    rule = HOLDING[fact[0]]
+    return rule(reached, returned, fact)
