@@ -10,14 +10,18 @@ wherever it is, tells that no totals satisfy them.
 from lostexits.inequalities import right_side
 
 
-def lowered(by_source, start):
+def steps_from(by_source):
+    """Return the list of all inequalities of a dict, each as a triple (left moment, terms, source)."""
+    return [(left, terms, source) for source in by_source for left, terms in by_source[source]]
+
+
+def lowered(steps, start):
     """Return the bounds below first ones, and the list of the lines (moment, bound, source) that lower them.
 
     It stops at the first negative bound, so that a few lines more than the sum of the first bounds suffice.
     """
     bounds = start[:]
     lines = []
-    steps = [(left, terms, source) for source in by_source for left, terms in by_source[source]]
     settled = False
     while not settled:
         known = len(lines)

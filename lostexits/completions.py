@@ -1,7 +1,7 @@
 """Completions: how many frames return unseen directly before each moment of a trace."""
 
 from lostexits.errors import InvalidCompletion
-from lostexits.traces import check_trace, created_before, frames, is_plain_int
+from lostexits.traces import check_trace, created_counts, frames, is_plain_int
 
 
 def stack_after(stack, event, created):
@@ -18,12 +18,12 @@ def stack_after(stack, event, created):
     return stack
 
 
-def next_stack(trace, reached):
+def next_stack(trace, created, reached):
     """Return the stack at the moment behind the reached ones, before its unseen returns, or None."""
     if not reached:
         return ()
     last = len(reached) - 1
-    return stack_after(reached[last], trace[last], created_before(trace, last))
+    return stack_after(reached[last], trace[last], created[last])
 
 
 def are_moment_numbers(trace, numbers):
@@ -35,9 +35,10 @@ def reached_stacks(trace, value):
     """Return the stacks at all moments, or None if the value is not a valid completion of the trace."""
     if not isinstance(value, tuple) or not are_moment_numbers(trace, value):
         return None
+    created = created_counts(trace)
     reached = []
     for unseen in value:
-        stack = next_stack(trace, reached)
+        stack = next_stack(trace, created, reached)
         if stack is None or not 0 <= unseen <= len(stack):
             return None
         reached.append(stack[:len(stack) - unseen])
@@ -63,7 +64,7 @@ def totals(trace, completion):
     """Return, for each moment, how many frames have returned before it, seen or unseen."""
     reached = stacks(trace, completion)
     # Every frame that is created is active until it returns, and it returns only once.
-    return [created_before(trace, moment) - len(stack) for moment, stack in enumerate(reached)]
+    return [created - len(stack) for created, stack in zip(created_counts(trace), reached)]
 
 
 def from_totals(trace, value):
@@ -71,13 +72,14 @@ def from_totals(trace, value):
     check_trace(trace)
     if not isinstance(value, list) or not are_moment_numbers(trace, value):
         return None
+    created = created_counts(trace)
     reached = []
     completion = []
     for moment, total in enumerate(value):
-        stack = next_stack(trace, reached)
+        stack = next_stack(trace, created, reached)
         if stack is None:
             return None
-        depth = created_before(trace, moment) - total
+        depth = created[moment] - total
         if not 0 <= depth <= len(stack):
             return None
         reached.append(stack[:depth])

@@ -1,8 +1,8 @@
 """Derivations: lists of lines which show that no completion satisfies all facts."""
 
-from lostexits.bounds import are_totals, lowered
 from lostexits.facts import check_facts
 from lostexits.inequalities import Layout, inequalities_by_source, right_side
+from lostexits.solutions import solutions_of
 from lostexits.traces import check_trace, is_plain_int
 
 MOST_LINES = 1500
@@ -19,11 +19,10 @@ def derivation(trace, facts):
     """Return a derivation, or None if the facts are consistent."""
     check_trace(trace)
     check_facts(trace, facts)
-    layout = Layout(trace)
-    bounds, lines = lowered(inequalities_by_source(layout, facts), layout.created)
-    if are_totals(bounds):
+    found = solutions_of(trace, facts)
+    if found.exist():
         return None
-    return lines + lines_to_start(lines[-1])
+    return found.lines + lines_to_start(found.lines[-1])
 
 
 def is_source(value):

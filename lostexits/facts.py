@@ -1,8 +1,12 @@
-"""Facts: what is known about the call stack at some moments."""
+"""Facts: what is known about the call stack at some moments.
 
-from lostexits.completions import stacks, totals
+The list `created` has, for each moment of a trace, the number of frames that are created before it.
+It is all that a fact needs to know about the trace.
+"""
+
+from lostexits.completions import stacks
 from lostexits.errors import InvalidFact, InvalidFacts
-from lostexits.traces import check_trace, created_before, is_plain_int
+from lostexits.traces import check_trace, created_counts, is_plain_int
 
 MOST_FACTS = 8
 LARGEST_NUMBER = 10
@@ -13,9 +17,9 @@ def is_within(value, low, high):
     return is_plain_int(value) and low <= value <= high
 
 
-def is_moment(trace, value):
+def is_moment(created, value):
     """Return whether a value is a moment of a trace."""
-    return is_within(value, 0, len(trace))
+    return is_within(value, 0, len(created) - 1)
 
 
 def is_range(low, high):
@@ -23,42 +27,42 @@ def is_range(low, high):
     return is_within(low, 0, LARGEST_NUMBER) and is_within(high, low, LARGEST_NUMBER)
 
 
-def is_frame_before(trace, value, moment):
+def is_frame_before(created, value, moment):
     """Return whether a value is a frame that is created before a moment."""
-    return is_within(value, 0, created_before(trace, moment) - 1)
+    return is_within(value, 0, created[moment] - 1)
 
 
-def is_depth_fact(trace, value):
+def is_depth_fact(created, value):
     """Return whether a tuple of four parts is a fact of the kind "depth"."""
-    return is_moment(trace, value[1]) and is_range(value[2], value[3])
+    return is_moment(created, value[1]) and is_range(value[2], value[3])
 
 
-def is_frame_fact(trace, value):
+def is_frame_fact(created, value):
     """Return whether a tuple of three parts is a fact about a frame and a moment after its creation."""
-    return is_moment(trace, value[2]) and is_frame_before(trace, value[1], value[2])
+    return is_moment(created, value[2]) and is_frame_before(created, value[1], value[2])
 
 
-def is_returns_fact(trace, value):
+def is_returns_fact(created, value):
     """Return whether a tuple of five parts is a fact of the kind "returns"."""
-    if not is_moment(trace, value[1]) or not is_moment(trace, value[2]):
+    if not is_moment(created, value[1]) or not is_moment(created, value[2]):
         return False
     return value[1] < value[2] and is_range(value[3], value[4])
 
 
-def is_deeper_fact(trace, value):
+def is_deeper_fact(created, value):
     """Return whether a tuple of four parts is a fact of the kind "deeper"."""
-    if not is_moment(trace, value[1]) or not is_moment(trace, value[2]):
+    if not is_moment(created, value[1]) or not is_moment(created, value[2]):
         return False
     return value[1] != value[2] and is_within(value[3], -LARGEST_NUMBER, LARGEST_NUMBER)
 
 
-def is_stack_fact(trace, value):
+def is_stack_fact(created, value):
     """Return whether a tuple of three parts is a fact of the kind "stack"."""
     moment = value[1]
     stack = value[2]
-    if not is_moment(trace, moment) or not isinstance(stack, tuple):
+    if not is_moment(created, moment) or not isinstance(stack, tuple):
         return False
-    if not all([is_frame_before(trace, frame, moment) for frame in stack]):
+    if not all([is_frame_before(created, frame, moment) for frame in stack]):
         return False
     return all([below < above for below, above in zip(stack, stack[1:])])
 
@@ -75,56 +79,70 @@ CHECKS = {
 }
 
 
-def is_fact(trace, value):
-    """Return whether a value is a fact about a trace."""
-    check_trace(trace)
+def has_fact_form(created, value):
+    """Return whether a value is a fact about a trace that creates its frames so."""
     if not isinstance(value, tuple) or not value or not isinstance(value[0], str):
         return False
     if PARTS.get(value[0]) != len(value):
         return False
     check = CHECKS[value[0]]
-    return check(trace, value)
+    return check(created, value)
+
+
+def is_fact(trace, value):
+    """Return whether a value is a fact about a trace."""
+    check_trace(trace)
+    return has_fact_form(created_counts(trace), value)
+
+
+def check_fact(trace, value):
+    """Raise InvalidFact unless a value is a fact about a trace."""
+    if not has_fact_form(created_counts(trace), value):
+        raise InvalidFact("this is not a fact about the trace")
 
 
 def check_facts(trace, value):
     """Raise InvalidFacts unless a value is a tuple of facts about a trace."""
     if not isinstance(value, tuple) or len(value) > MOST_FACTS:
         raise InvalidFacts("this is not a tuple of so few facts")
-    if not all([is_fact(trace, fact) for fact in value]):
+    created = created_counts(trace)
+    if not all([has_fact_form(created, fact) for fact in value]):
         raise InvalidFacts("one of these is not a fact about the trace")
 
 
-def depth_holds(reached, returned, fact):
+def depth_holds(created, reached, fact):
     """Return whether the depth at a moment is between the bounds."""
     return fact[2] <= len(reached[fact[1]]) <= fact[3]
 
 
-def active_holds(reached, returned, fact):
+def active_holds(created, reached, fact):
     """Return whether a frame is active at a moment."""
     return fact[1] in reached[fact[2]]
 
 
-def returned_holds(reached, returned, fact):
+def returned_holds(created, reached, fact):
     """Return whether a frame is not active at a moment."""
     return fact[1] not in reached[fact[2]]
 
 
-def innermost_holds(reached, returned, fact):
+def innermost_holds(created, reached, fact):
     """Return whether a frame is the innermost active one at a moment."""
     return reached[fact[2]][-1:] == (fact[1],)
 
 
-def returns_holds(reached, returned, fact):
+def returns_holds(created, reached, fact):
     """Return whether the number of returns between two moments is between the bounds."""
-    return fact[3] <= returned[fact[2]] - returned[fact[1]] <= fact[4]
+    before = created[fact[1]] - len(reached[fact[1]])
+    after = created[fact[2]] - len(reached[fact[2]])
+    return fact[3] <= after - before <= fact[4]
 
 
-def deeper_holds(reached, returned, fact):
+def deeper_holds(created, reached, fact):
     """Return whether the stack at a moment is deeper than at another one by a number."""
     return len(reached[fact[1]]) >= len(reached[fact[2]]) + fact[3]
 
 
-def stack_holds(reached, returned, fact):
+def stack_holds(created, reached, fact):
     """Return whether the stack at a moment is exactly this one."""
     return reached[fact[1]] == fact[2]
 
@@ -140,11 +158,28 @@ HOLDING = {
 }
 
 
+def last_moment(fact):
+    """Return the last moment at which the stack matters to a fact."""
+    if fact[0] in ("depth", "stack"):
+        return fact[1]
+    if fact[0] == "deeper":
+        return max(fact[1], fact[2])
+    return fact[2]
+
+
+def holds_on(created, reached, fact):
+    """Return whether a fact holds, given the stacks at all moments, or at those up to its last moment."""
+    rule = HOLDING[fact[0]]
+    return rule(created, reached, fact)
+
+
+def all_hold_on(created, reached, facts):
+    """Return whether all facts hold, given such stacks."""
+    return all([holds_on(created, reached, fact) for fact in facts])
+
+
 def holds(trace, completion, fact):
     """Return whether a fact holds in a completion of a trace."""
     reached = stacks(trace, completion)
-    returned = totals(trace, completion)
-    if not is_fact(trace, fact):
-        raise InvalidFact("this is not a fact about the trace")
-    rule = HOLDING[fact[0]]
-    return rule(reached, returned, fact)
+    check_fact(trace, fact)
+    return holds_on(created_counts(trace), reached, fact)

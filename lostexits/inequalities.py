@@ -5,7 +5,7 @@ is a pair of its left moment and its terms: the total at the left moment is at m
 A term (moment, number) is the total at that moment plus the number; (None, number) is the number alone.
 """
 
-from lostexits.traces import created_before, frames
+from lostexits.traces import created_counts, creates_frame
 
 
 class Layout:
@@ -13,8 +13,8 @@ class Layout:
 
     def __init__(self, trace):
         self.events = trace
-        self.created = [created_before(trace, moment) for moment in range(len(trace) + 1)]
-        self.births = [at for name, at in frames(trace)]
+        self.created = created_counts(trace)
+        self.births = [at for at, event in enumerate(trace) if creates_frame(event)]
 
 
 def right_side(terms, bounds):
@@ -24,10 +24,10 @@ def right_side(terms, bounds):
 
 def allowance(layout, frame, moment):
     """Return how many frames may return from the creation of a frame to a moment while it stays active."""
-    birth = layout.births[frame]
-    entered = layout.created[moment] - layout.created[birth] - 1
+    # Before the frame with a number, just as many frames are created.
+    entered = layout.created[moment] - frame - 1
     # The frame that a tail call replaces returns without touching the new one.
-    return entered + 1 if layout.events[birth][0] == "tail" else entered
+    return entered + 1 if layout.events[layout.births[frame]][0] == "tail" else entered
 
 
 def tail_calls(layout, frame, moment):
@@ -59,6 +59,14 @@ def innermost_inequalities(layout, frame, moment, empty):
     """Return the inequalities that say that a frame is active at a moment, and none above it at the moment empty."""
     above = (layout.births[frame], ((empty, -allowance(layout, frame, moment)),))
     return active_inequalities(layout, frame, moment) + [above]
+
+
+def covered_inequalities(layout, frame, moment, many):
+    """Return the inequalities that say that a frame is active at a moment with exactly so many frames above it."""
+    birth = layout.births[frame]
+    left = allowance(layout, frame, moment) - many
+    exactly = [(birth, ((moment, -left),)), (moment, ((birth, left),))]
+    return active_inequalities(layout, frame, moment) + exactly
 
 
 def event_inequalities(layout, at):

@@ -1,9 +1,9 @@
 """The completions with the most and the fewest returns."""
 
 from lostexits.bounds import are_totals, lowered
-from lostexits.completions import from_totals, totals
-from lostexits.facts import check_facts, holds
-from lostexits.inequalities import Layout, inequalities_by_source
+from lostexits.completions import from_totals, stacks, totals
+from lostexits.facts import all_hold_on, check_facts
+from lostexits.solutions import solutions_of
 from lostexits.traces import check_trace
 
 
@@ -11,21 +11,20 @@ def most_returned(trace, facts):
     """Return the completion that satisfies all facts with the largest total at every moment, or None."""
     check_trace(trace)
     check_facts(trace, facts)
-    layout = Layout(trace)
-    bounds, lines = lowered(inequalities_by_source(layout, facts), layout.created)
-    return from_totals(trace, bounds) if are_totals(bounds) else None
+    found = solutions_of(trace, facts)
+    return from_totals(trace, found.largest) if found.exist() else None
 
 
-def smallest_total(by_source, largest, moment):
-    """Return the smallest total at a moment that satisfies inequalities, given the largest totals that do."""
-    smallest = largest[moment]
-    bounds = largest
+def smallest_total(found, moment):
+    """Return the smallest total at a moment among completions that exist."""
+    smallest = found.largest[moment]
+    bounds = found.largest
     while are_totals(bounds):
         smallest = bounds[moment]
         # With one total bounded from above there are still largest totals, or none at all.
         start = bounds[:]
         start[moment] = smallest - 1
-        bounds, lines = lowered(by_source, start)
+        bounds, lines = lowered(found.steps, start)
     return smallest
 
 
@@ -33,16 +32,13 @@ def fewest_returned(trace, facts):
     """Return the completion that satisfies all facts with the smallest total at every moment, or None."""
     check_trace(trace)
     check_facts(trace, facts)
-    layout = Layout(trace)
-    by_source = inequalities_by_source(layout, facts)
-    largest, lines = lowered(by_source, layout.created)
-    if not are_totals(largest):
+    found = solutions_of(trace, facts)
+    if not found.exist():
         return None
-    smallest = [smallest_total(by_source, largest, moment) for moment in range(len(largest))]
-    completion = from_totals(trace, smallest)
+    completion = from_totals(trace, [smallest_total(found, moment) for moment in range(len(trace) + 1)])
     # The smallest totals of valid completions are those of a valid one, but they may come from different
     # completions, and then a frame that has returned in each of them need not have returned in this one.
-    return completion if all([holds(trace, completion, fact) for fact in facts]) else None
+    return completion if all_hold_on(found.layout.created, stacks(trace, completion), facts) else None
 
 
 def merge_most(trace, first, second):

@@ -1,8 +1,11 @@
 """The text of a trace and a completion: a line for each event and for each moment with unseen returns."""
 
-from lostexits.completions import is_completion, stacks
+from lostexits.completions import stack_after, stacks
 from lostexits.errors import InvalidText
-from lostexits.traces import MOST_FRAMES, is_trace
+from lostexits.traces import MOST_EVENTS, MOST_FRAMES, creates_frame, is_event
+
+# No frame and no number of returns is larger than the number of frames.
+WRITTEN = {"0": 0, "1": 1, "2": 2, "3": 3, "4": 4, "5": 5, "6": 6, "7": 7, "8": 8, "9": 9, "10": 10}
 
 
 def event_line(event):
@@ -23,47 +26,50 @@ def to_text(trace, completion):
     return "".join(lines)
 
 
-def written_number(word):
-    """Return the integer that a word writes, or None if it writes none that a text can have."""
-    # No frame and no number of returns is larger than the number of frames.
-    words = [str(number) for number in range(MOST_FRAMES + 1)]
-    return words.index(word) if word in words else None
+class Reading:
+    """The trace and the completion that the lines so far tell, and the stack behind these lines.
 
+    Each line is judged by the stack alone, so that no line costs more time the more lines are before it.
+    A method that takes something returns whether a text may go on so; if not, the reading ends.
+    """
 
-def pair_with_event(trace, completion, line):
-    """Return the trace with the event of a line, and its completion, or None if the line is wrong."""
-    kind, gap, word = line.partition(" ")
-    if line == "mark":
-        event = ("mark",)
-    elif kind in ("exit", "catch"):
-        event = (kind, written_number(word))
-    else:
-        event = (kind, word)
-    longer = trace + (event,)
-    if not is_trace(longer):
-        return None
-    return longer, completion + (0,)
+    def __init__(self):
+        self.events = []
+        self.unseen = [0]
+        self.stack = ()
+        self.entered = 0
 
+    def take_loss(self, word):
+        """Take the number of unseen returns that a word writes."""
+        many = WRITTEN.get(word, 0)
+        if not 1 <= many <= len(self.stack) or self.unseen[-1] > 0:
+            return False
+        self.unseen[-1] = many
+        self.stack = self.stack[:-many]
+        return True
 
-def pair_with_loss(trace, completion, word):
-    """Return the trace and its completion with a last number that a word writes, or None if it is wrong."""
-    unseen = written_number(word)
-    if unseen is None or unseen == 0 or completion[-1] > 0:
-        return None
-    return trace, completion[:-1] + (unseen,)
+    def take_event(self, event):
+        """Take a value that stands in the place of an event."""
+        if len(self.events) == MOST_EVENTS or not is_event(event, self.entered):
+            return False
+        stack = stack_after(self.stack, event, self.entered)
+        if creates_frame(event):
+            self.entered += 1
+        if stack is None or self.entered > MOST_FRAMES:
+            return False
+        self.stack = stack
+        self.events.append(event)
+        self.unseen.append(0)
+        return True
 
-
-def pair_with_line(pair, line):
-    """Return the trace and the completion after one more line, or None if no text begins so."""
-    trace, completion = pair
-    kind, gap, word = line.partition(" ")
-    if kind == "lost":
-        found = pair_with_loss(trace, completion, word)
-    else:
-        found = pair_with_event(trace, completion, line)
-    if found is None or not is_completion(found[0], found[1]):
-        return None
-    return found
+    def take_line(self, line):
+        """Take a line without its line feed."""
+        kind, gap, word = line.partition(" ")
+        if kind == "lost":
+            return self.take_loss(word)
+        if kind in ("exit", "catch"):
+            return self.take_event((kind, WRITTEN.get(word)))
+        return self.take_event((kind, word) if gap else (kind,))
 
 
 def from_text(text):
@@ -71,12 +77,11 @@ def from_text(text):
     if not isinstance(text, str):
         raise InvalidText(0)
     lines = text.split("\n")
-    pair = ((), (0,))
+    reading = Reading()
     for number, line in enumerate(lines[:-1], start=1):
-        pair = pair_with_line(pair, line)
-        if pair is None:
+        if not reading.take_line(line):
             raise InvalidText(number)
     # Behind the last line feed nothing may follow.
     if lines[-1] != "":
         raise InvalidText(len(lines))
-    return pair
+    return tuple(reading.events), tuple(reading.unseen)

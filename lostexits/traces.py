@@ -16,7 +16,7 @@ def is_name(value):
     """Return whether a value is the name of a function."""
     if not isinstance(value, str) or not 1 <= len(value) <= LONGEST_NAME:
         return False
-    return all(["a" <= letter <= "z" for letter in value])
+    return value.isascii() and value.isalpha() and value.islower()
 
 
 def creates_frame(event):
@@ -24,9 +24,12 @@ def creates_frame(event):
     return event[0] in ("enter", "tail")
 
 
-def created_before(trace, moment):
-    """Return the number of frames that are created before a moment."""
-    return len([event for event in trace[:moment] if creates_frame(event)])
+def created_counts(trace):
+    """Return, for each moment, the number of frames that are created before it."""
+    counts = [0]
+    for event in trace:
+        counts.append(counts[-1] + 1 if creates_frame(event) else counts[-1])
+    return counts
 
 
 def is_event(value, created):

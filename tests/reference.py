@@ -236,6 +236,86 @@ def extreme(pairs, choose):
     return next((row for row, known in pairs if known.totals == wanted), None)
 
 
+def told_status(trace, pairs, fact):
+    """How a fact stands among the completions of the pairs."""
+    judged = {true(trace, known, fact) for row, known in pairs}
+    if len(judged) != 1:
+        return "open" if judged else "inconsistent"
+    return "entailed" if judged == {True} else "excluded"
+
+
+def told_depths(trace, pairs, moment):
+    """The depths at a moment: how many of the frames created before it have not ended."""
+    return sorted({len(alive(trace, known, moment)) for row, known in pairs})
+
+
+def told_ends(pairs, frame):
+    found = {known.ends[frame] for row, known in pairs}
+    return sorted(found - {None}) + [None] * (None in found)
+
+
+def told_callers(pairs, frame):
+    found = {known.callers[frame] for row, known in pairs}
+    return [None] * (None in found) + sorted(found - {None})
+
+
+def told_certain(trace, pairs, moment):
+    if not pairs:
+        return None
+    there = [alive(trace, known, moment) for row, known in pairs]
+    frames = range(created(trace, moment))
+    always = [frame for frame in frames if all(frame in active for active in there)]
+    return always, [frame for frame in frames if not any(frame in active for active in there)]
+
+
+def told_sample(trace, pairs):
+    """The first moment with the smallest of the largest groups of equal stacks, and its size."""
+    if len(pairs) < 2:
+        return None
+    found = []
+    for moment in range(len(trace) + 1):
+        shown = [alive(trace, known, moment) for row, known in pairs]
+        found.append((max(shown.count(stack) for stack in set(shown)), moment))
+    many, moment = min(found)
+    return moment, many
+
+
+def index_tuples(many):
+    """All ascending tuples of indices below a number, the shorter ones first, those of a length in ascending order."""
+    return [chosen for size in range(many + 1) for chosen in combinations(range(many), size)]
+
+
+def told_conflicts(many, consistent):
+    """The minimal conflicts, given whether the facts with each tuple of indices are consistent."""
+    found = []
+    for chosen in index_tuples(many):
+        smaller = [tuple(other for other in chosen if other != index) for index in chosen]
+        if not consistent[chosen] and all(consistent[other] for other in smaller):
+            found.append(chosen)
+    return sorted(found)
+
+
+def told_dropped(many, consistent):
+    """The first of the shortest tuples of indices without which the facts are consistent, or None."""
+    for dropped in index_tuples(many):
+        if consistent[tuple(index for index in range(many) if index not in dropped)]:
+            return dropped
+    return None
+
+
+def subsets_consistent(trace, pairs, facts):
+    """For each tuple of indices of facts whether one of the pairs satisfies all of these facts."""
+    rows = [[true(trace, known, fact) for fact in facts] for row, known in pairs]
+    return {chosen: any(all(row[i] for i in chosen) for row in rows) for chosen in index_tuples(len(facts))}
+
+
+def renamed(trace):
+    """The trace with another name for each call."""
+    letters = "abcdefghijklmnopqrstuvwxyz"
+    calls = ("enter", "tail")
+    return tuple((event[0], "x" + letters[at]) if event[0] in calls else event for at, event in enumerate(trace))
+
+
 class Inequalities:
     """The inequalities of a trace, each as the pair of its left moment and its right side, a function of p."""
 
@@ -390,6 +470,23 @@ def large_problems(seed, many):
             yield trace, facts, pairs
 
 
+def some_traces(chance):
+    """All traces of up to four events, and many of five and six."""
+    for length in range(7):
+        for trace in small_traces(length):
+            if length < 5 or chance.randrange(3 if length == 5 else 12) == 0:
+                yield trace
+
+
+def some_facts(chance, trace, pairs, facts):
+    """Tuples of facts: any, and such that hold together in a completion."""
+    for _ in range(3):
+        yield tuple(chance.choice(facts) for _ in range(chance.randrange(9)))
+        if pairs and created(trace, len(trace)):
+            yield near_facts(chance, trace, chance.choice(pairs)[1], chance.randrange(9))
+            yield near_facts(chance, trace, chance.choice(pairs)[1], 2)
+
+
 def nested(many, shape):
     value = shape()
     for _ in range(many - 1):
@@ -432,4 +529,40 @@ ODD_VALUES = [
     (("mark",),) * 1500,
     nested(10, list),
     nested(10, tuple),
+]
+# Values that are no trace, and values that are no facts about the trace of the examples.
+NOT_TRACES = [value for value in ODD_VALUES if value != ()] + [
+    list(T),
+    (("mark",),) * 25,
+    (("enter", "f"),) * 11,
+    (("tail", "g"),),
+]
+ANY_DEPTH = ("depth", 4, 0, 10)
+NOT_FACTS = [value for value in ODD_VALUES if value != ()] + [
+    ANY_DEPTH,
+    [ANY_DEPTH],
+    (ANY_DEPTH,) * 9,
+    (ANY_DEPTH, list(ANY_DEPTH)),
+    (ANY_DEPTH, ("depth", 6, 0, 10)),
+    (("active", 3, 4),),
+    (("active", True, 4),),
+    (("depth", False, 1, 1),),
+    (("stack", 4, [0]),),
+    (ANY_DEPTH,) * 7 + (None,),
+]
+# Values that are no fact about the trace of the examples.
+NOT_A_FACT = ODD_VALUES + [
+    list(ANY_DEPTH),
+    (ANY_DEPTH,),
+    ("depth", 6, 0, 1),
+    ("depth", 4, 0, 11),
+    ("depth", True, 0, 1),
+    ("active", 3, 4),
+    ("stack", 4, [0]),
+    ("stack", 4, (3,)),
+    ("deeper", 4, 4, 0),
+    ("deeper", 4, 3, 11),
+    ("returns", 4, 4, 0, 0),
+    ("returned", 0, 0),
+    ("innermost", 4, 5),
 ]

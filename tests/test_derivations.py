@@ -3,6 +3,8 @@ import unittest
 from random import Random
 
 from reference import (
+    NOT_FACTS,
+    NOT_TRACES,
     ODD_VALUES,
     WITHOUT_COMPLETION,
     T,
@@ -33,16 +35,6 @@ ONE_DEEP = (("depth", 1, 1, 2),)
 GIVEN = [(1, -1, ("fact", 0)), (0, -1, ("event", 0))]
 # This fact alone is never true, so any lines that follow are a derivation with one line more.
 NEVER = ("depth", 0, 1, 1)
-NOT_TRACES = [value for value in ODD_VALUES if value != ()] + [list(T), (MARK,) * 25, (ENTER,) * 11, (TAIL,)]
-NOT_FACTS = [value for value in ODD_VALUES if value != ()] + [
-    NEVER,
-    [NEVER],
-    (NEVER,) * 9,
-    (NEVER, list(NEVER)),
-    (NEVER, ("depth", 6, 0, 10)),
-    (("active", 3, 4),),
-    (("depth", False, 1, 1),),
-]
 
 
 def sources(trace, facts):

@@ -3,6 +3,9 @@ from itertools import permutations, product
 from random import Random
 
 from reference import (
+    ANY_DEPTH,
+    NOT_FACTS,
+    NOT_TRACES,
     ODD_VALUES,
     WITHOUT_COMPLETION,
     T,
@@ -18,6 +21,8 @@ from reference import (
     random_pairs,
     satisfying,
     small_traces,
+    some_facts,
+    some_traces,
     true,
 )
 
@@ -34,37 +39,7 @@ EARLY = (0, 1, 0, 1, 0, 0)
 NUMBERS = (0, 1, 2, 3, 10)
 SOLVING = (most_returned, fewest_returned)
 MERGING = (merge_most, merge_fewest)
-NOT_TRACES = [value for value in ODD_VALUES if value != ()] + [list(T), (MARK,) * 25, (ENTER,) * 11, (TAIL,)]
-DEPTH = ("depth", 4, 0, 10)
-NOT_FACTS = [value for value in ODD_VALUES if value != ()] + [
-    DEPTH,
-    [DEPTH],
-    (DEPTH,) * 9,
-    (DEPTH, list(DEPTH)),
-    (DEPTH, ("depth", 6, 0, 10)),
-    (("active", 3, 4),),
-    (("active", True, 4),),
-    (("stack", 4, [0]),),
-    (DEPTH,) * 7 + (None,),
-]
 NOT_COMPLETIONS = ODD_VALUES + [list(FULL), (0,) * 6, FULL[:5], FULL + (0,), (False,) + FULL[1:]]
-
-
-def some_traces(chance):
-    """All traces of up to four events, and many of five and six."""
-    for length in range(7):
-        for trace in small_traces(length):
-            if length < 5 or chance.randrange(3 if length == 5 else 12) == 0:
-                yield trace
-
-
-def some_facts(chance, trace, pairs, facts):
-    """Tuples of facts: any, and such that hold together in a completion."""
-    for _ in range(3):
-        yield tuple(chance.choice(facts) for _ in range(chance.randrange(9)))
-        if pairs and created(trace, len(trace)):
-            yield near_facts(chance, trace, chance.choice(pairs)[1], chance.randrange(9))
-            yield near_facts(chance, trace, chance.choice(pairs)[1], 2)
 
 
 class Examples(unittest.TestCase):
@@ -351,7 +326,7 @@ class Merging(unittest.TestCase):
 class Errors(unittest.TestCase):
     def test_invalid_trace_comes_first(self):
         for trace in NOT_TRACES:
-            for other in ((), (DEPTH,), FULL, None, [], (DEPTH,) * 9):
+            for other in ((), (ANY_DEPTH,), FULL, None, [], (ANY_DEPTH,) * 9):
                 for function in SOLVING:
                     with self.assertRaises(InvalidTrace):
                         function(trace, other)
@@ -387,11 +362,11 @@ class Errors(unittest.TestCase):
                             function(T, first, second)
 
     def test_eight_and_nine_facts(self):
-        self.assertEqual(most_returned(T, (DEPTH,) * 8), (0, 1, 0, 1, 0, 1))
-        self.assertEqual(fewest_returned(T, (DEPTH,) * 8), (0, 0, 0, 1, 0, 0))
+        self.assertEqual(most_returned(T, (ANY_DEPTH,) * 8), (0, 1, 0, 1, 0, 1))
+        self.assertEqual(fewest_returned(T, (ANY_DEPTH,) * 8), (0, 0, 0, 1, 0, 0))
         for function in SOLVING:
             with self.assertRaises(InvalidFacts):
-                function(T, (DEPTH,) * 9)
+                function(T, (ANY_DEPTH,) * 9)
 
 
 class GeneralRules(unittest.TestCase):

@@ -1,3 +1,4 @@
+import sys
 import unittest
 from random import Random
 
@@ -225,6 +226,48 @@ class WrongText(unittest.TestCase):
         from_text("".join(lines[: told - 1]))
         with self.assertRaises(InvalidText):
             from_text("".join(lines[:told]))
+
+
+class Work(unittest.TestCase):
+    """How much work from_text does, told by the number of calls that it makes, so that no clock is needed."""
+
+    def calls(self, text):
+        many = 0
+
+        def note(frame, event, argument):
+            nonlocal many
+            many += event in ("call", "c_call")
+
+        sys.setprofile(note)
+        try:
+            from_text(text)
+        except InvalidText:
+            pass
+        finally:
+            sys.setprofile(None)
+        return many
+
+    def test_the_work_grows_with_the_number_of_lines(self):
+        for line in ("mark\n", "enter f\ntail g\nlost 1\n", "enter abcdefgh\n", "enter f\nlost 1\nmark\n"):
+            start = self.calls("")
+            for many in (2, 4, 8, 16, 24):
+                if self.created(line * many) <= 10:
+                    each = self.calls(line) - start
+                    # A line does not cost more because other lines are before it.
+                    self.assertLessEqual(self.calls(line * many) - start, many * (each + 1))
+
+    def created(self, text):
+        return text.count("enter") + text.count("tail")
+
+    def test_the_text_that_took_longest(self):
+        exits = "".join(f"exit {frame}\n" for frame in reversed(range(1, 10)))
+        text = "enter abcdefgh\n" * 10 + exits + "mark\n" * 4 + "lost 1\n"
+        trace = (("enter", "abcdefgh"),) * 10 + tuple(("exit", frame) for frame in reversed(range(1, 10)))
+        self.assertEqual(from_text(text), (trace + (MARK,) * 4, (0,) * 23 + (1,)))
+        self.assertLess(self.calls(text), 25 * 24)
+
+    def test_nothing_is_read_behind_the_first_wrong_line(self):
+        self.assertEqual(self.calls("mark\nx\n" + "mark\n" * 100), self.calls("mark\nx\n"))
 
 
 class Errors(unittest.TestCase):
