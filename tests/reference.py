@@ -236,6 +236,70 @@ def extreme(pairs, choose):
     return next((row for row, known in pairs if known.totals == wanted), None)
 
 
+def stack_behind(stack, event, frame):
+    """The stack behind an event that creates this frame if it creates one, or None if it is impossible."""
+    kind, *detail = event
+    if kind == "enter":
+        return stack + (frame,)
+    if kind == "tail":
+        return stack[:-1] + (frame,) if stack else None
+    if kind == "exit":
+        return stack[:-1] if stack and stack[-1] == detail[0] else None
+    if kind == "catch":
+        return tuple(other for other in stack if other <= detail[0]) if detail[0] in stack else None
+    return stack
+
+
+def shows(stack, fact):
+    """Whether a fact about one moment holds if this is the stack there."""
+    kind, *parts = fact
+    if kind == "depth":
+        return parts[1] <= len(stack) <= parts[2]
+    if kind == "stack":
+        return stack == parts[1]
+    if kind == "innermost":
+        return bool(stack) and stack[-1] == parts[0]
+    return (parts[0] in stack) == (kind == "active")
+
+
+def judge_pair(fact, sizes):
+    """Whether a fact about two moments holds, given for both the pair of the depth and the created frames."""
+    kind, first, second, *numbers = fact
+    (depth, frames), (other, others) = sizes[first], sizes[second]
+    if kind == "deeper":
+        return depth - other >= numbers[0]
+    return numbers[0] <= (others - other) - (frames - depth) <= numbers[1]
+
+
+def reachable(trace, facts, wanted=()):
+    """Whether a completion satisfies the facts and has stacks as wanted, also where there are very many completions.
+
+    What is wanted is given as pairs of a moment and a condition on the stack there. From moment to moment, only
+    the different stacks are kept, each with the depths that facts about two moments will still ask for.
+    """
+    double = [fact for fact in facts if fact[0] in ("returns", "deeper")]
+    single = [fact for fact in facts if fact not in double]
+    states = {((), ())}
+    for moment in range(len(trace) + 1):
+        frames = created(trace, moment)
+        due = [fact for fact in single if latest(fact) == moment]
+        closed = [fact for fact in double if latest(fact) == moment]
+        later = {min(fact[1], fact[2]) for fact in double if latest(fact) > moment}
+        conditions = [condition for at, condition in wanted if at == moment]
+        longer = set()
+        for before, kept in states:
+            for depth in range(len(before) + 1):
+                stack = before[:depth]
+                sizes = dict(kept) | {moment: (depth, frames)}
+                if not all(shows(stack, fact) for fact in due) or not all(judge_pair(fact, sizes) for fact in closed):
+                    continue
+                behind = stack_behind(stack, trace[moment], frames) if moment < len(trace) else stack
+                if behind is not None and all(condition(stack) for condition in conditions):
+                    longer.add((behind, tuple((at, sizes[at]) for at in sorted(sizes) if at in later)))
+        states = longer
+    return len(states) > 0
+
+
 def told_status(trace, pairs, fact):
     """How a fact stands among the completions of the pairs."""
     judged = {true(trace, known, fact) for row, known in pairs}

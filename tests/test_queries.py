@@ -21,8 +21,10 @@ from reference import (
     near_fact,
     near_facts,
     random_pair,
+    reachable,
     renamed,
     satisfying,
+    shows,
     small_traces,
     some_facts,
     some_traces,
@@ -273,6 +275,58 @@ class LargeTraces(unittest.TestCase):
                 self.assertIn(status(trace, facts, fact), told)
             for fact in facts:
                 self.assertEqual(status(trace, facts, fact), "entailed")
+
+    def test_all_stacks_that_can_be_reached(self):
+        for chance, trace, facts, known in self.problems(73, 20):
+            facts = facts[: chance.randrange(9)]
+            if chance.randrange(3) == 0:
+                facts += (chance.choice(all_facts(trace, (0, 1, 5, 10))),)
+            facts = tuple(chance.sample(facts, len(facts)))[:8]
+            self.assertEqual(most_returned(trace, facts) is not None, reachable(trace, facts))
+            for moment in chance.sample(range(25), 3):
+                self.compare_moment(trace, facts, moment)
+            for frame in chance.sample(range(10), 3):
+                self.compare_frame(trace, facts, frame)
+            for fact in chance.sample(all_facts(trace, (0, 1, 3, 5, 10)), 6):
+                self.compare_status(trace, facts, fact)
+
+    def compare_moment(self, trace, facts, moment):
+        told = [d for d in range(11) if reachable(trace, facts, [(moment, lambda stack: len(stack) == d)])]
+        self.assertEqual(possible_depths(trace, facts, moment), told, (trace, facts, moment))
+        frames = range(created(trace, moment))
+        active = [i for i in frames if not reachable(trace, facts, [(moment, lambda stack: i not in stack)])]
+        gone = [i for i in frames if not reachable(trace, facts, [(moment, lambda stack: i in stack)])]
+        told = (active, gone) if reachable(trace, facts) else None
+        self.assertEqual(certain_frames(trace, facts, moment), told, (trace, facts, moment))
+
+    def compare_frame(self, trace, facts, frame):
+        birth = [at for at, event in enumerate(trace) if event[0] in ("enter", "tail")][frame]
+        told = []
+        for moment in range(birth + 1, 25):
+            wanted = [(moment, lambda stack: frame not in stack)]
+            if moment > birth + 1:
+                wanted.append((moment - 1, lambda stack: frame in stack))
+            told += [moment] if reachable(trace, facts, wanted) else []
+        told += [None] if reachable(trace, facts, [(24, lambda stack: frame in stack)]) else []
+        self.assertEqual(possible_ends(trace, facts, frame), told, (trace, facts, frame))
+        at = -2 if trace[birth][0] == "tail" else -1
+        told = [None] if reachable(trace, facts, [(birth, lambda stack: len(stack) < -at)]) else []
+        for i in range(frame):
+            told += [i] if reachable(trace, facts, [(birth, lambda stack: len(stack) >= -at and stack[at] == i)]) else []
+        self.assertEqual(possible_callers(trace, facts, frame), told, (trace, facts, frame))
+
+    def compare_status(self, trace, facts, fact):
+        if fact[0] == "deeper":
+            without = reachable(trace, facts + (("deeper", fact[2], fact[1], 1 - fact[3]),))
+        elif fact[0] == "returns":
+            others = [("returns", fact[1], fact[2], d, d) for d in range(11) if not fact[3] <= d <= fact[4]]
+            without = any(reachable(trace, facts + (other,)) for other in others)
+        else:
+            moment = fact[1] if fact[0] in ("depth", "stack") else fact[2]
+            without = reachable(trace, facts, [(moment, lambda stack: not shows(stack, fact))])
+        words = {(True, True): "open", (True, False): "entailed", (False, True): "excluded"}
+        told = words.get((reachable(trace, facts + (fact,)), without), "inconsistent")
+        self.assertEqual(status(trace, facts, fact), told, (trace, facts, fact))
 
     def test_queries_agree_with_each_other(self):
         for chance, trace, facts, known in self.problems(66, 12):
