@@ -7,35 +7,27 @@ A total is at most the total at any later moment, and the total at moment 0 is 0
 wherever it is, tells that no totals satisfy them.
 """
 
-from lostexits.inequalities import right_side
 
+def lowered(inequalities, start):
+    """Return the bounds below first ones, or None, and the list of the lines (moment, bound, source) that lower them.
 
-def steps_from(by_source):
-    """Return the list of all inequalities of a dict, each as a triple (left moment, terms, source)."""
-    return [(left, terms, source) for source in by_source for left, terms in by_source[source]]
-
-
-def lowered(steps, start):
-    """Return the bounds below first ones, and the list of the lines (moment, bound, source) that lower them.
-
-    It stops at the first negative bound, so that a few lines more than the sum of the first bounds suffice.
+    It stops at the first negative bound, with None instead of the bounds. So a few lines more than the sum of
+    the first bounds suffice.
     """
     bounds = start[:]
     lines = []
-    settled = False
-    while not settled:
+    known = -1
+    while known < len(lines):
         known = len(lines)
-        for left, terms, source in steps:
-            right = right_side(terms, bounds)
+        for left, moment, number, others, source in inequalities:
+            right = bounds[moment] + number
+            # The others can only make the right side larger, so they are seldom looked at.
             if right < bounds[left]:
-                bounds[left] = right
-                lines.append((left, right, source))
-            if right < 0:
-                return bounds, lines
-        settled = len(lines) == known
+                for at, more in others:
+                    right = max(right, bounds[at] + more)
+                if right < bounds[left]:
+                    bounds[left] = right
+                    lines.append((left, right, source))
+                    if right < 0:
+                        return None, lines
     return bounds, lines
-
-
-def are_totals(bounds):
-    """Return whether bounds that are lowered as far as possible are totals."""
-    return min(bounds) >= 0

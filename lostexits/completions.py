@@ -1,7 +1,7 @@
 """Completions: how many frames return unseen directly before each moment of a trace."""
 
 from lostexits.errors import InvalidCompletion
-from lostexits.traces import check_trace, created_counts, frames, is_plain_int
+from lostexits.traces import checked_counts, frames, is_plain_int
 
 
 def stack_after(stack, event, created):
@@ -31,11 +31,10 @@ def are_moment_numbers(trace, numbers):
     return len(numbers) == len(trace) + 1 and all([is_plain_int(number) for number in numbers])
 
 
-def reached_stacks(trace, value):
+def reached_stacks(trace, created, value):
     """Return the stacks at all moments, or None if the value is not a valid completion of the trace."""
     if not isinstance(value, tuple) or not are_moment_numbers(trace, value):
         return None
-    created = created_counts(trace)
     reached = []
     for unseen in value:
         stack = next_stack(trace, created, reached)
@@ -45,37 +44,36 @@ def reached_stacks(trace, value):
     return reached
 
 
-def is_completion(trace, value):
-    """Return whether a value is a valid completion of a trace."""
-    check_trace(trace)
-    return reached_stacks(trace, value) is not None
-
-
-def stacks(trace, completion):
-    """Return the list of the stacks at all moments."""
-    check_trace(trace)
-    reached = reached_stacks(trace, completion)
+def checked_stacks(trace, created, value):
+    """Return the stacks at all moments, or raise InvalidCompletion."""
+    reached = reached_stacks(trace, created, value)
     if reached is None:
         raise InvalidCompletion("this is not a valid completion of the trace")
     return reached
 
 
+def is_completion(trace, value):
+    """Return whether a value is a valid completion of a trace."""
+    return reached_stacks(trace, checked_counts(trace), value) is not None
+
+
+def stacks(trace, completion):
+    """Return the list of the stacks at all moments."""
+    return checked_stacks(trace, checked_counts(trace), completion)
+
+
 def totals(trace, completion):
     """Return, for each moment, how many frames have returned before it, seen or unseen."""
-    reached = stacks(trace, completion)
+    created = checked_counts(trace)
     # Every frame that is created is active until it returns, and it returns only once.
-    return [created - len(stack) for created, stack in zip(created_counts(trace), reached)]
+    return [many - len(stack) for many, stack in zip(created, checked_stacks(trace, created, completion))]
 
 
-def from_totals(trace, value):
-    """Return the valid completion with this list of totals, or None if there is none."""
-    check_trace(trace)
-    if not isinstance(value, list) or not are_moment_numbers(trace, value):
-        return None
-    created = created_counts(trace)
+def completion_with(trace, created, numbers):
+    """Return the valid completion with this list of one integer for each moment as totals, or None."""
     reached = []
     completion = []
-    for moment, total in enumerate(value):
+    for moment, total in enumerate(numbers):
         stack = next_stack(trace, created, reached)
         if stack is None:
             return None
@@ -85,6 +83,14 @@ def from_totals(trace, value):
         reached.append(stack[:depth])
         completion.append(len(stack) - depth)
     return tuple(completion)
+
+
+def from_totals(trace, value):
+    """Return the valid completion with this list of totals, or None if there is none."""
+    created = checked_counts(trace)
+    if not isinstance(value, list) or not are_moment_numbers(trace, value):
+        return None
+    return completion_with(trace, created, value)
 
 
 def caller_at(stack, event):

@@ -2,7 +2,7 @@
 
 from lostexits.facts import check_facts
 from lostexits.solutions import solutions_of
-from lostexits.traces import check_trace
+from lostexits.traces import checked_counts
 
 
 def with_one_more(chosen, many):
@@ -33,11 +33,11 @@ def enlarged(consistent, facts, conflicts):
 
 def minimal_conflicts(trace, facts):
     """Return the ascending list of all minimal conflicts between facts."""
-    check_trace(trace)
-    check_facts(trace, facts)
+    created = checked_counts(trace)
+    check_facts(created, facts)
     conflicts = []
     # By the number of facts, so that every smaller conflict is known before.
-    candidates = {(): solutions_of(trace, ())}
+    candidates = {(): solutions_of(trace, created, ())}
     while candidates:
         conflicts.extend([indices for indices in candidates if not candidates[indices].exist()])
         consistent = {indices: candidates[indices] for indices in candidates if candidates[indices].exist()}

@@ -1,9 +1,10 @@
 """Counting: all completions of short traces that satisfy the facts, numbered in ascending order."""
 
-from lostexits.completions import next_stack, reached_stacks
+from lostexits.completions import reached_stacks
 from lostexits.errors import CapacityError, InvalidCompletion, InvalidNumber
-from lostexits.facts import all_hold_on, check_facts, last_moment
-from lostexits.traces import check_trace, created_counts, is_plain_int
+from lostexits.facts import all_hold_on, check_facts
+from lostexits.paths import END, Paths
+from lostexits.traces import checked_counts, is_plain_int
 
 MOST_COUNTED_EVENTS = 9
 
@@ -14,77 +15,94 @@ def check_capacity(trace):
         raise CapacityError("completions are counted for shorter traces only")
 
 
-def one_moment_longer(trace, created, beginnings):
-    """Return all beginnings of completions that go on with one more moment, in ascending order."""
-    longer = []
-    for numbers, reached in beginnings:
-        stack = next_stack(trace, created, reached)
-        if stack is not None:
-            for unseen in range(len(stack) + 1):
-                longer.append((numbers + (unseen,), reached + (stack[:len(stack) - unseen],)))
-    return longer
-
-
-def satisfying(trace, facts):
-    """Return all completions that satisfy the facts, in ascending order, as pairs with the tuples of their stacks."""
-    created = created_counts(trace)
-    beginnings = [((), ())]
-    for moment in range(len(created)):
-        due = [fact for fact in facts if last_moment(fact) == moment]
-        longer = one_moment_longer(trace, created, beginnings)
-        beginnings = [pair for pair in longer if all_hold_on(created, pair[1], due)]
-    return beginnings
-
-
 def count(trace, facts):
     """Return how many completions satisfy the facts."""
-    check_trace(trace)
-    check_facts(trace, facts)
+    created = checked_counts(trace)
+    check_facts(created, facts)
     check_capacity(trace)
-    return len(satisfying(trace, facts))
+    paths = Paths(trace, created, facts)
+    return paths.ways[paths.start]
+
+
+def path_to(paths, remaining):
+    """Return the completion from which so many remain to the last one, itself included."""
+    node = paths.start
+    numbers = []
+    while node != END:
+        unseen = 0
+        shorter = paths.shorter[node]
+        # Completions with more unseen returns at a moment come behind those with fewer.
+        while paths.ways[shorter] >= remaining:
+            unseen += 1
+            node = shorter
+            shorter = paths.shorter[node]
+        numbers.append(unseen)
+        remaining -= paths.ways[shorter]
+        node = paths.onward[node]
+    return tuple(numbers)
 
 
 def completion_at(trace, facts, number):
     """Return the completion with a number."""
-    check_trace(trace)
-    check_facts(trace, facts)
+    created = checked_counts(trace)
+    check_facts(created, facts)
     if not is_plain_int(number) or number < 0:
         raise InvalidNumber("this is not an integer of at least 0")
     check_capacity(trace)
-    found = satisfying(trace, facts)
-    if number >= len(found):
+    paths = Paths(trace, created, facts)
+    remaining = paths.ways[paths.start] - number
+    if remaining <= 0:
         raise InvalidNumber("there is no completion with this number")
-    return found[number][0]
+    return path_to(paths, remaining)
 
 
 def number_of(trace, facts, completion):
     """Return the number of a completion."""
-    check_trace(trace)
-    check_facts(trace, facts)
-    reached = reached_stacks(trace, completion)
-    if reached is None or not all_hold_on(created_counts(trace), reached, facts):
+    created = checked_counts(trace)
+    check_facts(created, facts)
+    reached = reached_stacks(trace, created, completion)
+    if reached is None or not all_hold_on(created, reached, facts):
         raise InvalidCompletion("this is not a valid completion of the trace that satisfies the facts")
     check_capacity(trace)
-    numbered = [numbers for numbers, stacks in satisfying(trace, facts)]
-    return numbered.index(completion)
+    paths = Paths(trace, created, facts)
+    node = paths.start
+    number = 0
+    for unseen in completion:
+        for step in range(unseen):
+            # Those without this return come first.
+            number += paths.ways[paths.onward[node]]
+            node = paths.shorter[node]
+        node = paths.onward[node]
+    return number
 
 
-def worst_case(found, moment):
-    """Return how many of the completions have the same stack at a moment, at most."""
+def arrivals(paths):
+    """Return the list of how many beginnings of completions come to each node."""
+    found = [0] * len(paths.ways)
+    found[paths.start] = 1
+    # From the largest index on, all that come to a node are known before it is left.
+    for node in reversed(range(END + 1, len(found))):
+        found[paths.shorter[node]] += found[node]
+        found[paths.onward[node]] += found[node]
+    return found
+
+
+def worst_case(paths, arriving, moment):
+    """Return how many completions have the same stack at a moment, at most."""
     sizes = {}
-    for numbers, reached in found:
-        stack = reached[moment]
-        sizes[stack] = sizes.get(stack, 0) + 1
+    for (stack, limits), node in paths.known[moment].items():
+        sizes[stack] = sizes.get(stack, 0) + arriving[node] * paths.ways[paths.onward[node]]
     return max(list(sizes.values()))
 
 
 def best_sample(trace, facts):
     """Return the first moment at which a sample leaves the fewest completions at worst, and how many, or None."""
-    check_trace(trace)
-    check_facts(trace, facts)
+    created = checked_counts(trace)
+    check_facts(created, facts)
     check_capacity(trace)
-    found = satisfying(trace, facts)
-    if len(found) < 2:
+    paths = Paths(trace, created, facts)
+    if paths.ways[paths.start] < 2:
         return None
-    left = [worst_case(found, moment) for moment in range(len(trace) + 1)]
+    arriving = arrivals(paths)
+    left = [worst_case(paths, arriving, moment) for moment in range(len(created))]
     return left.index(min(left)), min(left)

@@ -1,9 +1,9 @@
 """Derivations: lists of lines which show that no completion satisfies all facts."""
 
+from lostexits.bounds import lowered
 from lostexits.facts import check_facts
-from lostexits.inequalities import Layout, inequalities_by_source, right_side
-from lostexits.solutions import solutions_of
-from lostexits.traces import check_trace, is_plain_int
+from lostexits.inequalities import Layout, all_inequalities, first_bounds, right_side
+from lostexits.traces import checked_counts, is_plain_int
 
 MOST_LINES = 1500
 
@@ -17,12 +17,10 @@ def lines_to_start(line):
 
 def derivation(trace, facts):
     """Return a derivation, or None if the facts are consistent."""
-    check_trace(trace)
-    check_facts(trace, facts)
-    found = solutions_of(trace, facts)
-    if found.exist():
-        return None
-    return found.lines + lines_to_start(found.lines[-1])
+    created = checked_counts(trace)
+    check_facts(created, facts)
+    bounds, lines = lowered(all_inequalities(Layout(trace, created), facts), first_bounds(created))
+    return lines + lines_to_start(lines[-1]) if bounds is None else None
 
 
 def is_source(value):
@@ -39,11 +37,19 @@ def is_line(value):
     return is_plain_int(value[0]) and is_plain_int(value[1]) and is_source(value[2])
 
 
+def sorted_by_source(inequalities):
+    """Return the dict from each source to the list of its inequalities."""
+    found = {}
+    for inequality in inequalities:
+        found.setdefault(inequality[-1], []).append(inequality)
+    return found
+
+
 def follows(line, by_source, bounds):
     """Return whether a line follows if these are the smallest bounds that are known before it."""
     moment, bound, source = line
-    given = by_source.get(source, [])
-    return any([left == moment and right_side(terms, bounds) <= bound for left, terms in given])
+    given = [inequality for inequality in by_source.get(source, []) if inequality[0] == moment]
+    return any([right_side(inequality, bounds) <= bound for inequality in given])
 
 
 def all_follow(lines, by_source, start):
@@ -58,12 +64,12 @@ def all_follow(lines, by_source, start):
 
 def is_derivation(trace, facts, value):
     """Return whether a value is a derivation."""
-    check_trace(trace)
-    check_facts(trace, facts)
+    created = checked_counts(trace)
+    check_facts(created, facts)
     if not isinstance(value, list) or not 1 <= len(value) <= MOST_LINES:
         return False
-    layout = Layout(trace)
-    if not all_follow(value, inequalities_by_source(layout, facts), layout.created):
+    by_source = sorted_by_source(all_inequalities(Layout(trace, created), facts))
+    if not all_follow(value, by_source, first_bounds(created)):
         return False
     moment, bound, source = value[-1]
     return moment == 0 and bound < 0

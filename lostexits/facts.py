@@ -4,9 +4,9 @@ The list `created` has, for each moment of a trace, the number of frames that ar
 It is all that a fact needs to know about the trace.
 """
 
-from lostexits.completions import stacks
+from lostexits.completions import checked_stacks
 from lostexits.errors import InvalidFact, InvalidFacts
-from lostexits.traces import check_trace, created_counts, is_plain_int
+from lostexits.traces import checked_counts
 
 MOST_FACTS = 8
 LARGEST_NUMBER = 10
@@ -14,7 +14,8 @@ LARGEST_NUMBER = 10
 
 def is_within(value, low, high):
     """Return whether a value is an integer from low to high."""
-    return is_plain_int(value) and low <= value <= high
+    # Every part of every fact is asked this, so it does not go through is_plain_int.
+    return isinstance(value, int) and not isinstance(value, bool) and low <= value <= high
 
 
 def is_moment(created, value):
@@ -27,11 +28,6 @@ def is_range(low, high):
     return is_within(low, 0, LARGEST_NUMBER) and is_within(high, low, LARGEST_NUMBER)
 
 
-def is_frame_before(created, value, moment):
-    """Return whether a value is a frame that is created before a moment."""
-    return is_within(value, 0, created[moment] - 1)
-
-
 def is_depth_fact(created, value):
     """Return whether a tuple of four parts is a fact of the kind "depth"."""
     return is_moment(created, value[1]) and is_range(value[2], value[3])
@@ -39,14 +35,14 @@ def is_depth_fact(created, value):
 
 def is_frame_fact(created, value):
     """Return whether a tuple of three parts is a fact about a frame and a moment after its creation."""
-    return is_moment(created, value[2]) and is_frame_before(created, value[1], value[2])
+    return is_moment(created, value[2]) and is_within(value[1], 0, created[value[2]] - 1)
 
 
 def is_returns_fact(created, value):
     """Return whether a tuple of five parts is a fact of the kind "returns"."""
-    if not is_moment(created, value[1]) or not is_moment(created, value[2]):
+    if not is_moment(created, value[2]) or not is_within(value[1], 0, value[2] - 1):
         return False
-    return value[1] < value[2] and is_range(value[3], value[4])
+    return is_range(value[3], value[4])
 
 
 def is_deeper_fact(created, value):
@@ -59,12 +55,15 @@ def is_deeper_fact(created, value):
 def is_stack_fact(created, value):
     """Return whether a tuple of three parts is a fact of the kind "stack"."""
     moment = value[1]
-    stack = value[2]
-    if not is_moment(created, moment) or not isinstance(stack, tuple):
+    if not is_moment(created, moment) or not isinstance(value[2], tuple):
         return False
-    if not all([is_frame_before(created, frame, moment) for frame in stack]):
-        return False
-    return all([below < above for below, above in zip(stack, stack[1:])])
+    # The frames ascend, so each one is at least the one below it plus 1.
+    least = 0
+    for frame in value[2]:
+        if not is_within(frame, least, created[moment] - 1):
+            return False
+        least = frame + 1
+    return True
 
 
 PARTS = {"depth": 4, "active": 3, "returned": 3, "innermost": 3, "returns": 5, "deeper": 4, "stack": 3}
@@ -91,23 +90,22 @@ def has_fact_form(created, value):
 
 def is_fact(trace, value):
     """Return whether a value is a fact about a trace."""
-    check_trace(trace)
-    return has_fact_form(created_counts(trace), value)
+    return has_fact_form(checked_counts(trace), value)
 
 
-def check_fact(trace, value):
+def check_fact(created, value):
     """Raise InvalidFact unless a value is a fact about a trace."""
-    if not has_fact_form(created_counts(trace), value):
+    if not has_fact_form(created, value):
         raise InvalidFact("this is not a fact about the trace")
 
 
-def check_facts(trace, value):
+def check_facts(created, value):
     """Raise InvalidFacts unless a value is a tuple of facts about a trace."""
     if not isinstance(value, tuple) or len(value) > MOST_FACTS:
         raise InvalidFacts("this is not a tuple of so few facts")
-    created = created_counts(trace)
-    if not all([has_fact_form(created, fact) for fact in value]):
-        raise InvalidFacts("one of these is not a fact about the trace")
+    for fact in value:
+        if not has_fact_form(created, fact):
+            raise InvalidFacts("one of these is not a fact about the trace")
 
 
 def depth_holds(created, reached, fact):
@@ -158,28 +156,23 @@ HOLDING = {
 }
 
 
-def last_moment(fact):
-    """Return the last moment at which the stack matters to a fact."""
-    if fact[0] in ("depth", "stack"):
-        return fact[1]
-    if fact[0] == "deeper":
-        return max(fact[1], fact[2])
-    return fact[2]
-
-
 def holds_on(created, reached, fact):
-    """Return whether a fact holds, given the stacks at all moments, or at those up to its last moment."""
+    """Return whether a fact holds, given a list or dict with the stacks at the moments that it is about."""
     rule = HOLDING[fact[0]]
     return rule(created, reached, fact)
 
 
 def all_hold_on(created, reached, facts):
     """Return whether all facts hold, given such stacks."""
-    return all([holds_on(created, reached, fact) for fact in facts])
+    for fact in facts:
+        if not holds_on(created, reached, fact):
+            return False
+    return True
 
 
 def holds(trace, completion, fact):
     """Return whether a fact holds in a completion of a trace."""
-    reached = stacks(trace, completion)
-    check_fact(trace, fact)
-    return holds_on(created_counts(trace), reached, fact)
+    created = checked_counts(trace)
+    reached = checked_stacks(trace, created, completion)
+    check_fact(created, fact)
+    return holds_on(created, reached, fact)

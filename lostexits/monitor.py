@@ -38,7 +38,7 @@ class Monitor:
 
     def observe(self, fact):
         """Append a fact."""
-        check_fact(self.events, fact)
+        check_fact(created_counts(self.events), fact)
         if len(self.observed) == MOST_FACTS:
             raise CapacityError("there are as many facts as there may be")
         self.become(self.events, self.observed + (fact,))
@@ -63,8 +63,9 @@ class Monitor:
 
     def status(self, fact):
         """Return "entailed", "excluded" or "open"."""
-        check_fact(self.events, fact)
-        return status_among(solutions_of(self.events, self.observed), fact)
+        created = created_counts(self.events)
+        check_fact(created, fact)
+        return status_among(solutions_of(self.events, created, self.observed), fact)
 
     def __len__(self):
         return len(self.events)

@@ -2,7 +2,7 @@
 
 from lostexits.completions import stack_after, stacks
 from lostexits.errors import InvalidText
-from lostexits.traces import MOST_EVENTS, MOST_FRAMES, creates_frame, is_event
+from lostexits.traces import CREATING, MOST_EVENTS, MOST_FRAMES, is_event
 
 # No frame and no number of returns is larger than the number of frames.
 WRITTEN = {"0": 0, "1": 1, "2": 2, "3": 3, "4": 4, "5": 5, "6": 6, "7": 7, "8": 8, "9": 9, "10": 10}
@@ -53,7 +53,7 @@ class Reading:
         if len(self.events) == MOST_EVENTS or not is_event(event, self.entered):
             return False
         stack = stack_after(self.stack, event, self.entered)
-        if creates_frame(event):
+        if event[0] in CREATING:
             self.entered += 1
         if stack is None or self.entered > MOST_FRAMES:
             return False

@@ -5,6 +5,7 @@ from lostexits.errors import InvalidTrace
 MOST_EVENTS = 24
 MOST_FRAMES = 10
 LONGEST_NAME = 8
+CREATING = ("enter", "tail")
 
 
 def is_plain_int(value):
@@ -14,22 +15,10 @@ def is_plain_int(value):
 
 def is_name(value):
     """Return whether a value is the name of a function."""
-    if not isinstance(value, str) or not 1 <= len(value) <= LONGEST_NAME:
+    if not isinstance(value, str) or len(value) > LONGEST_NAME:
         return False
+    # An empty string has no letter, so it is none.
     return value.isascii() and value.isalpha() and value.islower()
-
-
-def creates_frame(event):
-    """Return whether an event creates a frame."""
-    return event[0] in ("enter", "tail")
-
-
-def created_counts(trace):
-    """Return, for each moment, the number of frames that are created before it."""
-    counts = [0]
-    for event in trace:
-        counts.append(counts[-1] + 1 if creates_frame(event) else counts[-1])
-    return counts
 
 
 def is_event(value, created):
@@ -49,26 +38,35 @@ def is_event(value, created):
     return False
 
 
-def is_trace(value):
-    """Return whether a value is a trace."""
+def created_counts(value):
+    """Return, for each moment of a trace, the number of frames that are created before it; None for any other value."""
     if not isinstance(value, tuple) or len(value) > MOST_EVENTS:
-        return False
+        return None
     created = 0
+    counts = [0]
     for event in value:
         if not is_event(event, created):
-            return False
-        if creates_frame(event):
+            return None
+        if event[0] in CREATING:
             created += 1
-    return created <= MOST_FRAMES
+        counts.append(created)
+    return counts if created <= MOST_FRAMES else None
 
 
-def check_trace(value):
-    """Raise InvalidTrace unless a value is a trace."""
-    if not is_trace(value):
+def is_trace(value):
+    """Return whether a value is a trace."""
+    return created_counts(value) is not None
+
+
+def checked_counts(value):
+    """Return what created_counts does, but raise InvalidTrace if a value is not a trace."""
+    counts = created_counts(value)
+    if counts is None:
         raise InvalidTrace("this is not a trace")
+    return counts
 
 
 def frames(trace):
     """Return the list of all frames as pairs of a name and the index of the creating event."""
-    check_trace(trace)
-    return [(event[1], at) for at, event in enumerate(trace) if creates_frame(event)]
+    checked_counts(trace)
+    return [(event[1], at) for at, event in enumerate(trace) if event[0] in CREATING]

@@ -22,6 +22,7 @@ from reference import (
     some_facts,
     some_traces,
     told_sample,
+    work,
 )
 
 from lostexits.counting import best_sample, completion_at, count, number_of
@@ -178,18 +179,85 @@ class AllCompletions(CountCase):
                 self.compare(trace, pairs, near_facts(chance, trace, meaning(trace, completion), 2))
                 self.compare(trace, pairs, near_facts(chance, trace, meaning(trace, completion), 8))
 
-    def test_samples_of_nine_entries(self):
+    def test_facts_that_compare_depths(self):
+        chance = Random(86)
+        for length in (2, 3, 4, 5, 6):
+            traces = [(ENTER,) * length, (MARK, ENTER, ENTER, TAIL, ENTER, MARK)[:length]]
+            traces += [random_pair(chance, length)[0] for _ in range(8)]
+            for trace in traces:
+                pairs = all_completions(trace)
+                facts = [fact for fact in all_facts(trace, (0, 1, 2, 10)) if fact[0] in ("returns", "deeper")]
+                for many in (1, 2, 2, 3, 4):
+                    self.compare(trace, pairs, tuple(chance.choice(facts) for _ in range(many)))
+
+
+class NineEntries(CountCase):
+    """The trace with the most completions, 16796."""
+
+    @classmethod
+    def setUpClass(cls):
+        cls.trace = (ENTER,) * 9
+        cls.pairs = all_completions(cls.trace)
+
+    def compare_some(self, chance, facts):
+        """Compare with the completions that are left, but of many only some by their numbers."""
+        left = satisfying(self.trace, self.pairs, facts)
+        rows = [row for row, known in left]
+        self.assertEqual(count(self.trace, facts), len(rows), facts)
+        for number in sorted({0, len(rows) - 1, *(chance.randrange(max(1, len(rows))) for _ in range(4))}):
+            if 0 <= number < len(rows):
+                self.assertEqual(completion_at(self.trace, facts, number), rows[number], facts)
+                self.assertEqual(number_of(self.trace, facts, rows[number]), number, facts)
+        self.refuse(self.trace, facts, len(rows), len(rows) + 1)
+        self.assertEqual(best_sample(self.trace, facts), told_sample(self.trace, left), facts)
+        return len(rows)
+
+    def test_no_facts(self):
+        self.assertEqual(self.compare_some(Random(87), ()), 16796)
+
+    def test_numbers_ascend(self):
+        for number, (row, known) in list(enumerate(self.pairs))[::97]:
+            self.assertEqual(completion_at(self.trace, (), number), row)
+            self.assertEqual(number_of(self.trace, (), row), number)
+
+    def test_facts_that_compare_depths(self):
+        chance = Random(88)
+        for by in (-10, -9, -2, -1, 0):
+            self.compare_some(chance, tuple(("deeper", 9, moment, by) for moment in range(1, 9)))
+            self.compare_some(chance, tuple(("deeper", moment, 9, by) for moment in range(1, 9)))
+            self.compare_some(chance, tuple(("deeper", moment + 1, moment, by) for moment in range(1, 9)))
+        self.compare_some(chance, tuple(("returns", moment, 10 - moment, 1, 4) for moment in range(1, 5)))
+        self.compare_some(chance, tuple(("returns", moment, moment + 2, 0, 3) for moment in range(8)))
+
+    def test_facts_of_all_kinds(self):
+        chance = Random(89)
+        counts = []
+        for many in (1, 1, 1, 2, 2, 2, 3, 3, 4, 8):
+            known = chance.choice(self.pairs)[1]
+            counts.append(self.compare_some(chance, near_facts(chance, self.trace, known, many)))
+        self.assertGreater(max(counts), 1000)
+
+
+class Work(unittest.TestCase):
+    """How much work the functions do, told by the number of calls that they make."""
+
+    def test_the_work_grows_with_the_stacks_and_not_with_the_completions(self):
+        # The last moment of so many entries has 2 ** many stacks, but many more completions come to them.
+        for many in range(10):
+            trace = (ENTER,) * many
+            most = 24 * 2**many + 60
+            self.assertLess(work(count, trace, ()), most)
+            self.assertLess(work(completion_at, trace, (), 0), most)
+            self.assertLess(work(completion_at, trace, (), count(trace, ()) - 1), most)
+            self.assertLess(work(number_of, trace, (), (0,) * (many + 1)), most)
+            self.assertLess(work(best_sample, trace, ()), most)
+
+    def test_facts_that_compare_depths(self):
         trace = (ENTER,) * 9
-        moment, many = best_sample(trace, ())
-        pairs = all_completions(trace)
-        for other in range(10):
-            sizes = {}
-            for row, known in pairs:
-                sizes[known.stacks[other]] = sizes.get(known.stacks[other], 0) + 1
-            worst = max(sizes.values())
-            self.assertTrue(worst > many or (worst == many and other >= moment))
-            if other == moment:
-                self.assertEqual(worst, many)
+        for by in (-10, -2, -1):
+            facts = tuple(("deeper", 9, moment, by) for moment in range(1, 9))
+            self.assertLess(work(count, trace, facts), 60000)
+            self.assertLess(work(best_sample, trace, facts), 60000)
 
 
 class Properties(unittest.TestCase):

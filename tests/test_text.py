@@ -1,8 +1,7 @@
-import sys
 import unittest
 from random import Random
 
-from reference import ODD_VALUES, T, all_completions, random_pair, random_pairs, small_traces
+from reference import ODD_VALUES, T, all_completions, random_pair, random_pairs, small_traces, work
 
 from lostexits.errors import InvalidCompletion, InvalidText, InvalidTrace
 from lostexits.text import from_text, to_text
@@ -232,20 +231,7 @@ class Work(unittest.TestCase):
     """How much work from_text does, told by the number of calls that it makes, so that no clock is needed."""
 
     def calls(self, text):
-        many = 0
-
-        def note(frame, event, argument):
-            nonlocal many
-            many += event in ("call", "c_call")
-
-        sys.setprofile(note)
-        try:
-            from_text(text)
-        except InvalidText:
-            pass
-        finally:
-            sys.setprofile(None)
-        return many
+        return work(from_text, text)
 
     def test_the_work_grows_with_the_number_of_lines(self):
         for line in ("mark\n", "enter f\ntail g\nlost 1\n", "enter abcdefgh\n", "enter f\nlost 1\nmark\n"):
