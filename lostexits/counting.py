@@ -81,18 +81,23 @@ def arrivals(paths):
     found = [0] * len(paths.ways)
     found[paths.start] = 1
     # From the largest index on, all that come to a node are known before it is left.
-    for node in reversed(range(END + 1, len(found))):
-        found[paths.shorter[node]] += found[node]
-        found[paths.onward[node]] += found[node]
+    for node in reversed(range(END + 1, len(paths.ways))):
+        many = found[node]
+        found[paths.shorter[node]] += many
+        found[paths.onward[node]] += many
     return found
 
 
 def worst_case(paths, arriving, moment):
     """Return how many completions have the same stack at a moment, at most."""
+    known = paths.known[moment]
+    # All completions come through the only node of a moment.
+    if len(known) == 1:
+        return paths.ways[paths.start]
     sizes = {}
-    for (stack, limits), node in paths.known[moment].items():
+    for (stack, limits), node in known.items():
         sizes[stack] = sizes.get(stack, 0) + arriving[node] * paths.ways[paths.onward[node]]
-    return max(list(sizes.values()))
+    return max(sizes.values())
 
 
 def best_sample(trace, facts):
@@ -105,4 +110,5 @@ def best_sample(trace, facts):
         return None
     arriving = arrivals(paths)
     left = [worst_case(paths, arriving, moment) for moment in range(len(created))]
-    return left.index(min(left)), min(left)
+    fewest = min(left)
+    return left.index(fewest), fewest

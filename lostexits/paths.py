@@ -10,11 +10,10 @@ lowest and the highest depth that the depths at earlier moments leave. There are
 """
 
 from lostexits.completions import stack_after
-from lostexits.facts import LARGEST_NUMBER, all_hold_on
+from lostexits.facts import LARGEST_NUMBER, holds_on
 
 NOWHERE = 0
 END = 1
-ANY_DEPTH = (0, LARGEST_NUMBER)
 
 
 def comparison(created, fact):
@@ -55,7 +54,9 @@ class Paths:
         self.onward = [NOWHERE, NOWHERE]
         # For each moment, the nodes by their stacks and limits.
         self.known = [{} for moment in created]
-        self.start = self.node_at(0, (), (ANY_DEPTH,) * len(created) if self.compared else ())
+        # At first, any depth is left for every moment.
+        limits = ((0, LARGEST_NUMBER),) * len(created) if self.compared else ()
+        self.start = self.node_at(0, (), limits)
 
     def sort_in(self, fact):
         """Put a fact to the moment at which it is looked at."""
@@ -84,8 +85,11 @@ class Paths:
         """Return the node behind an event if the stack before it is this one."""
         if limits and not limits[0][0] <= len(stack) <= limits[0][1]:
             return NOWHERE
-        if moment in self.shown and not all_hold_on(self.created, {moment: stack}, self.shown[moment]):
-            return NOWHERE
+        if moment in self.shown:
+            reached = {moment: stack}
+            for fact in self.shown[moment]:
+                if not holds_on(self.created, reached, fact):
+                    return NOWHERE
         if moment == len(self.events):
             return END
         after = stack_after(stack, self.events[moment], self.created[moment])

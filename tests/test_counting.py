@@ -179,6 +179,19 @@ class AllCompletions(CountCase):
                 self.compare(trace, pairs, near_facts(chance, trace, meaning(trace, completion), 2))
                 self.compare(trace, pairs, near_facts(chance, trace, meaning(trace, completion), 8))
 
+    def test_samples_of_nine_entries(self):
+        trace = (ENTER,) * 9
+        moment, many = best_sample(trace, ())
+        pairs = all_completions(trace)
+        for other in range(10):
+            sizes = {}
+            for row, known in pairs:
+                sizes[known.stacks[other]] = sizes.get(known.stacks[other], 0) + 1
+            worst = max(sizes.values())
+            self.assertTrue(worst > many or (worst == many and other >= moment))
+            if other == moment:
+                self.assertEqual(worst, many)
+
     def test_facts_that_compare_depths(self):
         chance = Random(86)
         for length in (2, 3, 4, 5, 6):
